@@ -1,0 +1,1 @@
+"""Outgrow: plans of work counted exactly, and which outgrows which."""

@@ -1,0 +1,25 @@
+"""The bounds of the program, and what a name is."""
+
+MOST_VISITS = 10000
+
+MOST_LETTERS = 8
+MOST_NUMBER_FIGURES = 2
+MOST_NUMBER = 99
+MOST_AGAIN = 9
+MOST_THINGS = 12
+MOST_BRACKETS = 4
+
+LETTERS = "abcdefghijklmnopqrstuvwxyz"
+FIGURES = "0123456789"
+
+NO_NAMES = (
+    "step", "for", "from", "to", "if", "else", "double", "call", "with",
+    "again", "on", "halves", "thirds", "less", "n",
+)
+
+
+def is_name(text):
+    """Whether a plan, a label or the number of a `for` may be called so."""
+    if text in NO_NAMES or not 1 <= len(text) <= MOST_LETTERS:
+        return False
+    return all([letter in LETTERS for letter in text])
