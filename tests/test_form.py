@@ -14,6 +14,9 @@ INTERFACE = {
                "Full", "Heavy", "Far", "Weary", "NothingLeft", "Stopped"],
     "bounds": ["is_name"],
     "texts": ["read_plan", "plan_text"],
+    "look": ["look_plan", "calls_of"],
+    "walks": ["walked"],
+    "tables": ["worth", "compared", "shown", "is_shown", "growth", "greater_growth", "sums_text", "growth_text"],
 }
 
 BARRED_WORDS = (
