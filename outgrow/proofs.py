@@ -53,13 +53,11 @@ def is_formed(row):
     kind, low, high = row
     if not is_number(low):
         return False
-    if kind == "figures" and high is None:
-        return low >= 1
-    if not is_number(high) or low > high:
+    if high is None:
+        return kind == "figures"
+    if not is_number(high) or not 0 <= low <= high:
         return False
-    if kind == "sizes":
-        return low >= 0
-    return low >= 1 and (kind == "figures" or (kind == "block" and low == high))
+    return kind in ("sizes", "figures") or (kind == "block" and low == high)
 
 
 def size_place(size):

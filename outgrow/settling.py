@@ -57,9 +57,8 @@ def figures_rows(powers, low, sign):
     for first, last, found in reversed(runs(lead, low, end - 1)):
         if found == sign:
             rows.append(("figures", first, last))
-        elif found == -sign:
-            return rows, last
         else:
+            # Where the lead is nought the lesser powers decide; where it has the other sign it decides itself.
             for figures in reversed(range(first, last + 1)):
                 if block_sign(powers, figures) != sign:
                     return rows, figures

@@ -129,6 +129,20 @@ class TestForm(unittest.TestCase):
                     self.assertRegex(name, r"^[A-Za-z][A-Za-z0-9_]*$", stem)
                     self.assertFalse(hasattr(builtins, name), (stem, name))
 
+    def test_barred_names(self):
+        barred = {"register", "mro", "elements", "open", "input", "law", "version_info", "add_note", "format"}
+        for stem, tree in trees().items():
+            used = {node.attr for node in ast.walk(tree) if isinstance(node, ast.Attribute)}
+            self.assertEqual(barred & (bound_names(tree) | used), set(), stem)
+
+    def test_no_variable_is_called_like_a_class_or_an_import(self):
+        for stem, tree in trees().items():
+            classes = {node.name for node in tree.body if isinstance(node, ast.ClassDef)}
+            variables = {node.arg for node in ast.walk(tree) if isinstance(node, ast.arg)}
+            variables |= {node.id for node in ast.walk(tree)
+                          if isinstance(node, ast.Name) and not isinstance(node.ctx, ast.Load)}
+            self.assertEqual(variables & (classes | set(self.imported(stem))), set(), stem)
+
     def test_builtins(self):
         import builtins
         for stem, tree in trees().items():

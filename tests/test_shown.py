@@ -195,6 +195,7 @@ class TestOtherKinds(Shown):
                (0, 0, 0), (None, None, None), (True, True, True), ("", 0, 0), ("alike", 0, None), ("Sizes", 0, 0),
                (("sizes", 0, 0),), [("sizes", 0, 0)], ("sizes", "0", "0"), ("sizes", None, None), ("sizes", [0], [0]),
                ("sizes", (0,), (0,)), ("figures", "1", None), ("figures", None, None), ("figures", [], None),
+               ("figures", 0, None), ("figures", 0, 5), ("figures", -1, None), ("block", 0, 0), ("sizes", -1, -1),
                ("block", None, None), ("block", 1, None), ("block", "1", "1"), (["sizes"], 0, 0), ((), 0, 0)]
 
     def test_strange_rows(self):
@@ -384,6 +385,17 @@ class TestOtherRows(Shown):
             self.like(one, NONE, ("more", 0), blocks + rows)
         self.holds(one, NONE, ("more", 0), blocks + [("figures", 6, 20), ("figures", 21, None)], True)
         self.holds(one, NONE, ("more", 0), blocks + [("figures", 6, None)], False)
+
+    def test_each_difference_counts_for_a_lead_without_end(self):
+        # Each of these has the sign at low, and one difference there that has not, the last one included.
+        blocks = [("sizes", 0, 0)] + [("sizes", 1 << (f - 1), (1 << f) - 1) for f in range(1, 6)]
+        for terms in ({1: -1, 0: 100}, {2: -1, 1: 100, 0: 1}, {3: -1, 2: 300, 0: 1}, {2: 1, 1: -50, 0: 900},
+                      {3: 1, 2: -90, 1: 3000, 0: 1}, {0: 100, 1: 1}, {3: 1, 2: 1, 0: 1}):
+            wanted = all(oracle.nth_difference(terms, nth, 6) >= 0 for nth in range(1, 4))
+            one = flat({(0, q): share for q, share in terms.items()})
+            self.assertIs(self.like(one, NONE, ("more", 0), blocks + [("figures", 6, None)]), wanted, terms)
+            turned = flat({(0, q): -share for q, share in terms.items()})
+            self.assertIs(self.like(turned, NONE, ("less", 0), blocks + [("figures", 6, None)]), wanted, terms)
 
     def test_blocks_where_the_lead_is_nought(self):
         word, size = compared(BLOCKS, NONE)
