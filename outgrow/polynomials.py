@@ -6,6 +6,20 @@ the empty list is nought.
 
 from outgrow.parts import sign_of
 
+# The sums of the powers 0 to 8 of all numbers from 1 on: polynomials, each taken times SUMS_TIMES to be whole.
+SUMS_TIMES = 2520
+POWER_SUMS = (
+    (0, 2520),
+    (0, 1260, 1260),
+    (0, 420, 1260, 840),
+    (0, 0, 630, 1260, 630),
+    (0, -84, 0, 840, 1260, 504),
+    (0, 0, -210, 0, 1050, 1260, 420),
+    (0, 60, 0, -420, 0, 1260, 1260, 360),
+    (0, 0, 210, 0, -735, 0, 1470, 1260, 315),
+    (0, -84, 0, 560, 0, -1176, 0, 1680, 1260, 280),
+)
+
 
 def trimmed(parts):
     """The polynomial of these parts, without the noughts of its greatest powers."""
@@ -36,13 +50,46 @@ def gaps(numbers):
     return [numbers[place + 1] - numbers[place] for place in range(len(numbers) - 1)]
 
 
+def added(one, other):
+    if len(one) < len(other):
+        one, other = other, one
+    return trimmed([part + more for part, more in zip(one, other)] + one[len(other):])
+
+
+def product(one, other):
+    if not one or not other:
+        return []
+    parts = [0] * (len(one) + len(other) - 1)
+    for place, part in enumerate(one):
+        for behind, more in enumerate(other):
+            parts[place + behind] += part * more
+    return parts
+
+
+def shifted(polynomial, number):
+    """The polynomial that comes to at a number what this one comes to so much behind it."""
+    parts = list(polynomial)
+    for done in range(len(parts)):
+        for place in reversed(range(done, len(parts) - 1)):
+            parts[place] += number * parts[place + 1]
+    return parts
+
+
 def difference(polynomial):
     """The polynomial of what a polynomial has more at the next number than at a number."""
-    shifted = list(polynomial)
-    for done in range(len(shifted)):
-        for place in reversed(range(done, len(shifted) - 1)):
-            shifted[place] += shifted[place + 1]
-    return trimmed([behind - ahead for ahead, behind in zip(polynomial, shifted)])
+    return trimmed([behind - ahead for ahead, behind in zip(polynomial, shifted(polynomial, 1))])
+
+
+def summed_up(polynomial):
+    """The polynomial that is 0 at 0, and at each number so much more than ahead of it as this one comes to there.
+
+    The powers are at most 8, and what this one comes to has a shared divisor by which the sum stays whole.
+    """
+    parts = [0] * (len(polynomial) + 1)
+    for part, sums in zip(polynomial, POWER_SUMS):
+        for place, share in enumerate(sums):
+            parts[place] += part * share
+    return trimmed([part // SUMS_TIMES for part in parts])
 
 
 def is_steady(polynomial, low, high, sign):

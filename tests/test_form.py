@@ -1,6 +1,7 @@
 """The form of the code: those rules of the language that can be checked file by file."""
 
 import ast
+import functools
 import pathlib
 import re
 import unittest
@@ -17,6 +18,16 @@ INTERFACE = {
     "look": ["look_plan", "calls_of"],
     "walks": ["walked"],
     "tables": ["worth", "compared", "shown", "is_shown", "growth", "greater_growth", "sums_text", "growth_text"],
+    "shelf": ["Shelf"],
+    "pages": ["page", "read_page"],
+    "desk": ["Desk"],
+}
+
+# The methods that the interface lists, by the class that must define them itself.
+METHODS = {
+    "Shelf": """put alter drop watch unwatch together undo redo past twin names labels text pair leans sums steps walk
+        growth order against paper news __eq__ __len__ __repr__""".split(),
+    "Desk": ["say"],
 }
 
 BARRED_WORDS = (
@@ -35,6 +46,7 @@ def files():
     return sorted(FOLDER.glob("*.py"))
 
 
+@functools.cache
 def trees():
     return {path.stem: ast.parse(path.read_text()) for path in files()}
 
@@ -171,6 +183,33 @@ class TestForm(unittest.TestCase):
             nodes = [node for node in trees()[stem].body if isinstance(node, (ast.FunctionDef, ast.ClassDef))]
             for name in wanted:
                 self.assertIn(name, [node.name for node in nodes], stem)
+
+    def test_methods_stand_in_their_classes(self):
+        classes = {node.name: node for tree in trees().values() for node in tree.body if isinstance(node, ast.ClassDef)}
+        for name, wanted in METHODS.items():
+            methods = [node.name for node in classes[name].body if isinstance(node, ast.FunctionDef)]
+            self.assertLessEqual(set(wanted), set(methods))
+            self.assertEqual(len(methods), len(set(methods)))
+
+    def test_no_import_is_idle(self):
+        for stem, tree in trees().items():
+            used = {node.id for node in ast.walk(tree) if isinstance(node, ast.Name)}
+            self.assertEqual(set(self.imported(stem)) - used, set(), stem)
+
+    def test_only_own_errors_are_caught(self):
+        own = set(INTERFACE["errors"])
+        for stem, tree in trees().items():
+            for node in ast.walk(tree):
+                if isinstance(node, ast.ExceptHandler):
+                    kinds = node.type.elts if isinstance(node.type, ast.Tuple) else [node.type]
+                    self.assertLessEqual({kind.id for kind in kinds}, own, stem)
+
+    def test_no_generators_and_stars_over_names_only(self):
+        for stem, tree in trees().items():
+            for node in ast.walk(tree):
+                self.assertNotIsInstance(node, (ast.GeneratorExp, ast.Yield, ast.YieldFrom), stem)
+                if isinstance(node, ast.Starred):
+                    self.assertIsInstance(node.value, (ast.Name, ast.Attribute), (stem, node.lineno))
 
     def test_no_name_is_a_method_and_an_attribute(self):
         methods, attributes = set(), set()
