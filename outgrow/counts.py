@@ -115,6 +115,7 @@ def leaves_of(count, body):
 
 
 def add_leaf(found, name, figures, course):
+    # What comes to 0 at all numbers needs no counting.
     if any([polynomial for since, polynomial in course]):
         count_course(found.setdefault((name, figures), Tally()), course)
 

@@ -53,7 +53,10 @@ def gaps(numbers):
 def added(one, other):
     if len(one) < len(other):
         one, other = other, one
-    return trimmed([part + more for part, more in zip(one, other)] + one[len(other):])
+    parts = [part + more for part, more in zip(one, other)] + one[len(other):]
+    while parts and parts[-1] == 0:
+        parts.pop()
+    return parts
 
 
 def product(one, other):

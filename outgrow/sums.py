@@ -24,14 +24,7 @@ def courses_of(sums):
 
 def sums_of(courses):
     """The sums that come to what courses by the powers of the figures come to together, at sizes from 0 on."""
-    rows = lowered(joined_rows(courses))
-    found = []
-    for place, (since, columns) in enumerate(rows):
-        last = row_end(rows, place)
-        terms = [] if last is not None and is_nought(columns, since, last) else terms_of(columns)
-        if not found or found[-1][1] != terms:
-            found.append((since, terms))
-    return found
+    return [(since, terms_of(columns)) for since, columns in lowered(joined_rows(courses))]
 
 
 def joined_rows(courses):
@@ -46,9 +39,10 @@ def count_at(columns, size):
 
 
 def lowered(rows):
-    """The rows, each from the least size on from which it comes to what the rows below it come to, from the last down.
+    """The rows, from the last one down, each from the least size on at which it comes to what the row there does.
 
-    So rows that only seem to be others, since they hold for few sizes, fall away.
+    So rows that only seem to be others fall away: none has terms where all of its sizes come to
+    what the next one comes to, and where all sizes come to 0 there is one row without terms.
     """
     found = []
     place = len(rows) - 1
@@ -60,14 +54,6 @@ def lowered(rows):
         while place >= 0 and rows[place][0] >= since:
             place -= 1
     return found[::-1]
-
-
-def is_nought(columns, first, last):
-    """Whether the columns come to 0 at all sizes from the first to the last one."""
-    for size in range(first, last + 1):
-        if count_at(columns, size) != 0:
-            return False
-    return True
 
 
 def terms_of(columns):

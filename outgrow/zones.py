@@ -17,6 +17,7 @@ def narrowed(zone, low, high):
     gap = low[1] - high[1]
     if is_at_most(zone, low, high):
         return zone
+    # Where nothing is known of how far low is above high, nothing is against the gap.
     if low[0] == high[0] or zone.get((high[0], low[0]), -gap) + gap > 0:
         return None
     return with_gap(zone, low[0], high[0], gap)

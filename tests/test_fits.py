@@ -154,6 +154,12 @@ class TestHeavy(Putting):
         self.puts("if 1 <= 0 (call nine with n) else (call eight with n); again 9 on halves", texts=WEIGHTS)
         self.puts("call nine with n", texts=WEIGHTS)
 
+    def test_an_if_weighs_nothing(self):
+        texts = {"three": nested(3, "if n <= 1 (step 1)"), "seven": nested(4, "call three with n")}
+        self.puts(nested(2, "call seven with n"), texts=texts)
+        self.puts(nested(3, "call seven with n"), "Heavy", texts=texts)
+        self.puts(nested(2, "if n <= 1 (step 1) else (call seven with n)"), texts=texts)
+
     def test_less_weighs_in_the_called_plan(self):
         texts = {**WEIGHTS, "lower": "call eight with n; again 1 on less"}
         self.puts("call lower with 5", texts=texts)
